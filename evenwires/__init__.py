@@ -1,0 +1,1 @@
+"""cablehall, accounts: charges shared out among companies, booked and paid."""
