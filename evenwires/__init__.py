@@ -1,1 +1,1 @@
-"""cablehall, accounts: charges shared out among companies, booked and paid."""
+"""cablehall, accounts: charges shared out among companies, booked, paid and settled."""

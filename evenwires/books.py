@@ -1,52 +1,24 @@
-"""The books: what each company has collected, got and paid.
+"""The books: the companies' accounts, and what each call makes of them.
 
 Each call on the books gives back its answer as a list: 0 and what it tells, or a refusal alone.
 """
 
+from evenwires.accounts import BOUND, FEWEST_COMPANIES, Account
+from evenwires.settling import most_groups, settlement
 from evenwires.shares import MOST_COMPANIES, can_be_shared, companies_of, shared, weights_of
-
-FEWEST_COMPANIES = 2
-# 2^50: how far from 0 a number of the books may be, and the most units of a payment.
-BOUND = 1125899906842624
+from evenwires.storage import loaded_accounts, saved_bytes
 
 WRONG = -1
+NOT_RIGHT_BYTES = -4
 TOO_FAR = -5
-
-
-class Account:
-    """A company's numbers. An account is never changed, but another put in its place."""
-
-    def __init__(self, collected, got, paid):
-        self.collected = collected
-        self.got = got
-        # What the company has paid, less what it was paid.
-        self.paid = paid
-
-    def position(self):
-        # Not kept beside the others, so that it can't differ from what they make it.
-        return self.got - self.collected + self.paid
-
-    def with_collected(self, units):
-        return Account(self.collected + units, self.got, self.paid)
-
-    def with_got(self, units):
-        return Account(self.collected, self.got + units, self.paid)
-
-    def with_paid(self, units):
-        return Account(self.collected, self.got, self.paid + units)
-
-    def is_within_bounds(self):
-        if self.collected > BOUND or self.got > BOUND:
-            return False
-        return abs(self.position()) <= BOUND and abs(self.paid) <= BOUND
 
 
 class Books:
     def __init__(self):
-        # No account means no books: begun, there are at least two.
+        # No account means no books: begun or loaded, there are at least two.
         self.accounts = []
 
-    def are_begun(self):
+    def are_there(self):
         return len(self.accounts) > 0
 
     def has_company(self, company):
@@ -92,5 +64,28 @@ class Books:
     def told(self, company):
         if not self.has_company(company):
             return [WRONG]
-        account = self.accounts[company]
-        return [0, account.position(), account.collected, account.got, account.paid]
+        return [0] + self.accounts[company].four_numbers()
+
+    def positions(self):
+        return [account.position() for account in self.accounts]
+
+    def settle(self):
+        numbers = []
+        for payment in settlement(self.positions()):
+            numbers.extend(payment)
+        return [0, len(numbers)] + numbers
+
+    def least(self):
+        positions = self.positions()
+        return [0, len(settlement(positions)), most_groups(positions)]
+
+    def save(self):
+        saved = saved_bytes(self.accounts)
+        return [0, len(saved)] + saved
+
+    def load(self, saved):
+        accounts = loaded_accounts(saved)
+        if accounts is None:
+            return [NOT_RIGHT_BYTES]
+        self.accounts = accounts
+        return [0]

@@ -1,6 +1,7 @@
 import unittest
 
-from tests.asking import HIGHEST_NUMBER, MOST_CHARGE, ask, begin, book, pay, share, told, told_all
+from tests.asking import HIGHEST_NUMBER, MOST_CHARGE, ask, begin, book, least, load, pay, save, settle, share
+from tests.asking import told, told_all, written
 
 NOTHING = [0, 0, 0, 0, 0]
 
@@ -35,6 +36,13 @@ class NoBooks(unittest.TestCase):
         self.assertEqual(ask(book(0, 1, [1, 1])), [[-9]])
         self.assertEqual(ask(pay(0, 1, 1)), [[-9]])
         self.assertEqual(ask(told(0)), [[-9]])
+        self.assertEqual(ask(settle()), [[-9]])
+        self.assertEqual(ask(least()), [[-9]])
+        self.assertEqual(ask(save()), [[-9]])
+
+    def test_load_needs_none(self):
+        self.assertEqual(ask(load([])), [[-4]])
+        self.assertEqual(ask(load(written([[0, 0, 0, 0]] * 2))), [[0]])
 
     def test_wrong_calls(self):
         wrong = [
@@ -52,8 +60,21 @@ class NoBooks(unittest.TestCase):
         self.assertEqual(ask(*wrong), [[-9]] * len(wrong))
 
     def test_behind_refused_begins(self):
-        answered = ask(begin(1), begin(7), told(0), pay(0, 1, 1), book(0, 1, [1, 1]))
-        self.assertEqual(answered, [[-1], [-1], [-9], [-9], [-9]])
+        answered = ask(begin(1), begin(7), told(0), pay(0, 1, 1), book(0, 1, [1, 1]), settle(), least(), save())
+        self.assertEqual(answered, [[-1], [-1]] + [[-9]] * 6)
+
+    def test_behind_refused_loads(self):
+        asked = [told(0), pay(0, 1, 1), book(0, 1, [1, 1]), settle(), least(), save()]
+        self.assertEqual(ask(load([]), load([255] * 1000), *asked), [[-4], [-4]] + [[-9]] * 6)
+
+    def test_begun_or_loaded_there_are_books(self):
+        asked = [told(0), pay(0, 1, 1), book(0, 1, [1, 1]), settle(), least(), save()]
+        for first in (begin(2), load(written([[0, 0, 0, 0]] * 2))):
+            self.assertEqual([answer[0] for answer in ask(first, *asked)], [0] * 7)
+
+    def test_refused_behind_begin_or_load_leaves_books(self):
+        for first in (begin(2), load(written([[0, 0, 0, 0]] * 2))):
+            self.assertEqual(ask(first, begin(1), load([]), settle(), told(0)), [[0], [-1], [-4], [0, 0], NOTHING])
 
     def test_share_makes_no_books(self):
         self.assertEqual(ask(share(1, [0, 1]), told(0)), [[0, 1, 1], [-9]])

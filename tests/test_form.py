@@ -33,6 +33,14 @@ WORDS_LEFT_OUT = re.compile(
 )
 
 
+WALKED_AT_ONCE = ("zip", "enumerate", "reversed", "range", "items", "keys", "values")
+MAY_WALK = ("list", "tuple", "dict", "sorted", "sum", "any", "all", "enumerate", "zip", "min", "max", "join")
+KEYWORDS = {
+    "sorted": ("key", "reverse"), "min": ("key", "default"), "max": ("key", "default"),
+    "sum": ("start",), "enumerate": ("start",), "zip": ("strict",),
+}
+
+
 def nodes_of(kinds):
     for name, tree in TREES.items():
         for node in ast.walk(tree):
@@ -106,6 +114,81 @@ class Form(unittest.TestCase):
         for name, node in nodes_of(ast.Constant):
             self.assertIn(type(node.value), (int, str, bool, type(None)), f"{name}:{node.lineno}")
             self.assertFalse(isinstance(node.value, str) and "%" in node.value, f"{name}:{node.lineno}")
+
+    def test_the_top_of_a_module(self):
+        for name, tree in TREES.items():
+            for place, node in enumerate(tree.body):
+                if place == 0:
+                    self.assertIsInstance(ast.literal_eval(node.value), str, name)
+                elif isinstance(node, ast.Assign):
+                    self.check_plain_and_unchanging(ast.literal_eval(node.value))
+                else:
+                    self.assertIsInstance(node, (ast.ImportFrom, ast.FunctionDef, ast.ClassDef), name)
+
+    def check_plain_and_unchanging(self, value):
+        # Tuples alone: then no def can change what stands there.
+        self.assertIsInstance(value, (int, str, tuple))
+        for part in value if isinstance(value, tuple) else ():
+            self.check_plain_and_unchanging(part)
+
+    def test_no_two_files_draw_from_one_another(self):
+        drawn = {name: [node.module.split(".")[1] + ".py" for node in tree.body if isinstance(node, ast.ImportFrom)]
+                 for name, tree in TREES.items()}
+        while drawn:
+            free = [name for name, others in drawn.items() if not set(others) & set(drawn)]
+            self.assertNotEqual(free, [], drawn)
+            drawn = {name: others for name, others in drawn.items() if name not in free}
+
+    def test_locals_hide_nothing(self):
+        for name, tree in TREES.items():
+            top = [node.name for node in tree.body if isinstance(node, (ast.FunctionDef, ast.ClassDef))]
+            top += [each.name for node in tree.body if isinstance(node, ast.ImportFrom) for each in node.names]
+            local = [node.arg for node in ast.walk(tree) if isinstance(node, ast.arg)]
+            names = [node for node in ast.walk(tree) if isinstance(node, ast.Name)]
+            local += [node.id for node in names if isinstance(node.ctx, ast.Store)]
+            self.assertEqual(set(local) & (set(top) | set(dir(builtins))), set(), name)
+
+    def test_methods_and_values(self):
+        methods = {node.name for name, each in nodes_of(ast.ClassDef) for node in each.body
+                   if isinstance(node, ast.FunctionDef)}
+        values = {node.attr for name, node in nodes_of(ast.Attribute) if isinstance(node.ctx, ast.Store)}
+        of_python = {each for kind in (str, int, list, dict, set, tuple, bytes) for each in dir(kind)}
+        self.assertEqual(methods & values, set())
+        self.assertEqual((methods | values) & of_python - {"__init__"}, set())
+        for name, each in nodes_of(ast.ClassDef):
+            for node in each.body:
+                self.assertTrue(isinstance(node, ast.FunctionDef) or isinstance(ast.literal_eval(node.value), str))
+
+    def test_narrower_expressions(self):
+        for name, node in nodes_of(ast.Compare):
+            if isinstance(node.ops[0], (ast.Is, ast.IsNot)):
+                self.assertIn(ast.unparse(node.comparators[0]), ("None", "True", "False"), f"{name}:{node.lineno}")
+        for name, node in nodes_of(ast.ListComp):
+            self.assertEqual(len(node.generators), 1, f"{name}:{node.lineno}")
+            self.assertLessEqual(len(node.generators[0].ifs), 1, f"{name}:{node.lineno}")
+        for name, node in nodes_of(ast.BinOp):
+            if isinstance(node.op, ast.Pow):
+                self.assertIn(ast.literal_eval(node.right), range(65), f"{name}:{node.lineno}")
+        for name, node in nodes_of(ast.FunctionDef):
+            annotated = [node.returns] + [each.annotation for each in node.args.args]
+            self.assertEqual(annotated, [None] * len(annotated), f"{name}: {node.name}")
+
+    def test_keywords_of_python_s_own(self):
+        for name, node in nodes_of(ast.Call):
+            called = ast.unparse(node.func)
+            for keyword in node.keywords:
+                self.assertIn(keyword.arg, KEYWORDS.get(called, ()), f"{name}:{node.lineno}")
+
+    def test_walked_at_once(self):
+        walked = []
+        for name, node in nodes_of((ast.For, ast.comprehension)):
+            walked.append(node.iter)
+        for name, node in nodes_of(ast.Call):
+            if ast.unparse(node.func).split(".")[-1] in MAY_WALK:
+                walked += node.args[:1]
+        for name, node in nodes_of(ast.Call):
+            if ast.unparse(node.func).split(".")[-1] in WALKED_AT_ONCE:
+                self.assertIn(node, walked, f"{name}:{node.lineno}")
 
 
 if __name__ == "__main__":

@@ -1,11 +1,13 @@
 import unittest
 
 from evenwires.desk import answers
-from tests.asking import ask, begin, book, joined, pay, share, told
+from tests.asking import ask, begin, book, joined, least, load, pay, save, settle, share, told, written
 
+EVEN_BYTES = written([[0, 0, 0, 0]] * 2)
 MIXED = joined([
     told(0), share(7, [0, 1, 1, 1]), begin(2), book(0, 7, [0, 1, 1, 1]), pay(1, 0, 9), told(0), told(1), told(2),
-    begin(9), share(7, []), share(7, [0, 1, 1]), told(1),
+    begin(9), share(7, []), share(7, [0, 1, 1]), told(1), settle(), least(), load([7, 7]), load(EVEN_BYTES), settle(),
+    least(), save(), load([]), told(1),
 ])
 
 
@@ -17,12 +19,20 @@ class Interface(unittest.TestCase):
         self.assertEqual(answers([1, 2]), [1, 0])
         self.assertEqual(answers([1, 2, 2, 0, 7, 2, 1, 1]), [1, 0, 1, 0])
         self.assertEqual(answers([1, 2, 3, 0, 1, 7, 4, 1]), [1, 0, 1, 0, 5, 0, -7, 0, 0, -7])
+        self.assertEqual(answers([5]), [1, -9])
+        self.assertEqual(answers([1, 2, 5]), [1, 0, 2, 0, 0])
+        self.assertEqual(answers([1, 2, 3, 0, 1, 7, 5]), [1, 0, 1, 0, 5, 0, 3, 1, 0, 7])
+        self.assertEqual(answers([1, 2, 3, 0, 1, 7, 6]), [1, 0, 1, 0, 3, 0, 1, 1])
+        self.assertEqual(answers([1, 2, 7]), [1, 0, 75, 0, 73] + EVEN_BYTES)
+        self.assertEqual(answers([8, 0]), [1, -4])
+        self.assertEqual(answers([8, 73] + EVEN_BYTES), [1, 0])
 
     def test_several_calls_in_one_list(self):
         self.assertEqual(answers(MIXED), [
             1, -9, 4, 0, 2, 4, 3, 1, 0, 1, 0, 1, 0, 5, 0, -12, 7, 4, -9, 5, 0, 12, 0, 3, 9, 1, -1,
-            1, -1, 1, -1, 1, -1, 5, 0, 12, 0, 3, 9,
-        ])
+            1, -1, 1, -1, 1, -1, 5, 0, 12, 0, 3, 9, 5, 0, 3, 0, 1, 12, 3, 0, 1, 1, 1, -4, 1, 0, 2, 0, 0,
+            3, 0, 0, 0, 75, 0, 73, 67, 66, 65, 49, 2,
+        ] + [0] * 64 + [249, 0, 0, 0, 1, -4, 5, 0, 0, 0, 0, 0])
 
     def test_rows_that_are_refused_are_passed_over_whole(self):
         # Read as calls, these rows would begin books.
@@ -30,6 +40,15 @@ class Interface(unittest.TestCase):
             self.assertEqual(ask(share(1, row), told(0)), [[-1], [-9]])
             self.assertEqual(ask(book(0, 1, row), told(0)), [[-9], [-9]])
             self.assertEqual(ask(begin(6), book(0, 1, row), told(0)), [[0], [-1], [0] * 5])
+
+    def test_bytes_that_are_refused_are_passed_over_whole(self):
+        # Read as calls, these bytes would begin books.
+        for wrong in ([1], [1, 2], [1, 2, 1], [1, 2] * 500):
+            self.assertEqual(ask(load(wrong), told(0)), [[-4], [-9]])
+            self.assertEqual(ask(begin(6), load(wrong), told(5)), [[0], [-4], [0] * 5])
+
+    def test_bytes_that_are_loaded_are_passed_over_whole(self):
+        self.assertEqual(ask(load(EVEN_BYTES), load(EVEN_BYTES), told(0)), [[0], [0], [0] * 5])
 
     def test_400_calls(self):
         calls = [begin(2)] + [book(0, 3, [1, 1]) for turn in range(398)] + [told(0)]
@@ -68,6 +87,8 @@ class Interface(unittest.TestCase):
         self.assertEqual(ask(begin(2), pay(0, 1, 5)), [[0], [0]])
         self.assertEqual(ask(told(0)), [[-9]])
         self.assertEqual(ask(begin(2), told(0)), [[0], [0] * 5])
+        self.assertEqual(ask(load(EVEN_BYTES)), [[0]])
+        self.assertEqual(ask(save()), [[-9]])
 
 
 if __name__ == "__main__":
